@@ -1,0 +1,1 @@
+"""Bucketline: people who hand on buckets from a well to a fire."""

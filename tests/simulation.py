@@ -1,0 +1,62 @@
+"""A simulation of hands, tick by tick, that shares no code with the package."""
+
+
+class Hands:
+    """What the people of a line do, straight from point 4 of the document.
+
+    `held_from[place][bucket]` is the tick from which on somebody holds a bucket.
+    """
+
+    def __init__(self, paces):
+        self.paces = paces
+        self.last = len(paces) - 1
+        self.now = 0
+        self.holds = [None] * len(paces)
+        self.ends = [None] * len(paces)
+        self.held_from = [{} for _ in paces]
+        self._take(0, 0)
+
+    def _take(self, place, bucket):
+        self.held_from[place][bucket] = self.now
+        # The last person empties each bucket at once.
+        self.holds[place] = None if place == self.last else bucket
+
+    def _end_hand_overs(self):
+        done = [place for place in range(self.last) if self.ends[place] == self.now]
+        for place in done:
+            bucket = self.holds[place]
+            self.ends[place] = None
+            self.holds[place] = None
+            self._take(place + 1, bucket)
+            if place == 0:
+                self._take(0, bucket + 1)
+
+    def _begin_hand_overs(self):
+        for place in range(self.last):
+            ready = self.holds[place] is not None and self.ends[place] is None
+            if ready and self.holds[place + 1] is None:
+                self.ends[place] = self.now + max(self.paces[place], self.paces[place + 1])
+
+    def run(self, buckets):
+        """Let ticks pass until so many buckets have arrived."""
+        while len(self.held_from[self.last]) < buckets:
+            self._end_hand_overs()
+            self._begin_hand_overs()
+            self.now += 1
+        return self
+
+
+def hand_over_ends(paces, buckets):
+    """Return the ends of all hand-overs of the first buckets, a list for each place."""
+    hands = Hands(paces).run(buckets)
+    return [[hands.held_from[place][bucket] for bucket in range(buckets)]
+            for place in range(1, len(paces))]
+
+
+def first_steady(paces, pace, buckets):
+    """Return the first bucket from which on all seen hand-overs keep the pace."""
+    ends = hand_over_ends(paces, buckets)
+    bucket = buckets - 1
+    while bucket > 0 and all(row[bucket] - row[bucket - 1] == pace for row in ends):
+        bucket -= 1
+    return bucket
