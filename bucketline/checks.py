@@ -19,8 +19,17 @@ def check_number(value, low, high):
         raise InvalidNumber(f"no integer from {low} to {high}")
 
 
-def place_of(names, name):
-    """Return the place of a name among the names, or raise UnknownPerson."""
+def check_person(names, name):
+    """Raise UnknownPerson unless a name is among the names."""
     if name not in names:
         raise UnknownPerson(name=name)
-    return names.index(name)
+
+
+def place_of(names, name):
+    """Return the place of a name among the names, or raise UnknownPerson."""
+    # A loop, not the tuple's own search: the signs of a line run this, and what
+    # they run calls no method that shares its name with an attribute of errors.
+    for place, other in enumerate(names):
+        if other == name:
+            return place
+    raise UnknownPerson(name=name)
