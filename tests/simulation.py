@@ -16,6 +16,10 @@ class Hands:
         self.held_from = [{} for _ in paces]
         self._take(0, 0)
 
+    def pace_for(self, place, bucket):
+        """Return the pace of a person for a bucket."""
+        return self.paces[place]
+
     def _take(self, place, bucket):
         self.held_from[place][bucket] = self.now
         # The last person empties each bucket at once.
@@ -35,7 +39,9 @@ class Hands:
         for place in range(self.last):
             ready = self.holds[place] is not None and self.ends[place] is None
             if ready and self.holds[place + 1] is None:
-                self.ends[place] = self.now + max(self.paces[place], self.paces[place + 1])
+                bucket = self.holds[place]
+                ticks = max(self.pace_for(place, bucket), self.pace_for(place + 1, bucket))
+                self.ends[place] = self.now + ticks
 
     def run(self, buckets):
         """Let ticks pass until so many buckets have arrived."""
@@ -44,6 +50,13 @@ class Hands:
             self._begin_hand_overs()
             self.now += 1
         return self
+
+
+class ChangingHands(Hands):
+    """People whose paces are functions of the bucket (point 11)."""
+
+    def pace_for(self, place, bucket):
+        return self.paces[place](bucket)
 
 
 def hand_over_ends(paces, buckets):

@@ -1,10 +1,13 @@
-"""Each example of the interface sections of lines.py and chains.py."""
+"""Each example of the interface sections of the modules that are built."""
 
 import unittest
 
 from bucketline.chains import chain_of_waits, judge_chain, slowest_part
-from bucketline.errors import InvalidChain, InvalidLine
+from bucketline.errors import Contradiction, InvalidChain, InvalidLine, InvalidWorker
+from bucketline.hidden import PaceObserver
+from bucketline.kinds import Learning, Resting, Tiring, Worker, played, ticks_needed
 from bucketline.lines import Line, buckets_by, latest_begin, steady_from
+from bucketline.orders import best_order, fewest_trained, good_line, least_pace
 from tests.cases import Case
 
 
@@ -48,6 +51,41 @@ class ExamplesTest(Case):
 
     def test_invalid_chain(self):
         self.fails(InvalidChain(index=1), judge_chain, self.line, [(0, "ann"), (1, "ann")])
+
+    def test_orders(self):
+        line = self.line
+        self.assertEqual(
+            [least_pace(line), good_line(line).pace, best_order(line).names],
+            [5, 5, ('ann', 'cid', 'bob')])
+
+    def test_fewest_trained(self):
+        line = self.line
+        self.assertEqual([fewest_trained(line, 1, 4), fewest_trained(line, 5, 4)], [['bob'], None])
+
+    def test_observer(self):
+        observer = PaceObserver(self.line, "bob")
+        self.assertEqual(
+            [observer.see(0, "bob", 2), observer.possible_paces, observer.telling_bucket(5),
+             observer.see(0, "cid", 4)],
+            [2, (1, 2), 0, 1])
+
+    def test_contradiction(self):
+        self.fails(Contradiction(), PaceObserver(self.line, "bob").see, 0, "bob", 1)
+
+    def test_kinds(self):
+        self.assertEqual(
+            [Tiring("a", 5, after=2, extra=3).ticks_for(4), Learning("b", 5, best=2).ticks_for(9),
+             Resting("c", 5, after=3, rest=4).ticks_for(2)],
+            [11, 2, 9])
+
+    def test_invalid_worker(self):
+        self.fails(InvalidWorker(part='best'), Learning, "b", 5, best=6)
+
+    def test_played(self):
+        self.assertEqual(list(played([Worker("a", 2), Learning("b", 4, best=1)], 3)), [4, 7, 9])
+
+    def test_ticks_needed(self):
+        self.assertEqual(ticks_needed([Worker("a", 2), Worker("b", 3), Worker("c", 1)], 2), 12)
 
 
 if __name__ == "__main__":
